@@ -1,0 +1,1 @@
+"""Long texts that short rules make."""

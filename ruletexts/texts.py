@@ -1,0 +1,63 @@
+"""Texts that are reckoned with by their rules, never written out."""
+
+BYTES = 256
+MOST_RULES = 256
+# 2^60, the first length that a text may not have.
+TOO_LONG = 1152921504606846976
+
+BAD_LIST = -1
+LONG_TEXT = -2
+
+
+def check(k, r):
+    """Answer [0] if the list is one, else its refusal."""
+    return [list_refusal(k, r)]
+
+
+def length(k, r):
+    """Answer how many letters the text has, or the list's refusal."""
+    refusal = list_refusal(k, r)
+    if refusal < 0:
+        return [refusal]
+    return [text_length(k, r)]
+
+
+def list_refusal(k, r):
+    """Give 0, or the first refusal that is right of the list."""
+    # All names are looked at before any length: lengths follow the names.
+    if k < 1 or k > MOST_RULES or not names_allowed(k, r):
+        return BAD_LIST
+    if text_length(k, r) >= TOO_LONG:
+        return LONG_TEXT
+    return 0
+
+
+def names_allowed(k, r):
+    """Say whether each rule names bytes and rules before it alone."""
+    for j in range(k):
+        if max(r[2 * j], r[2 * j + 1]) >= BYTES + j:
+            return False
+    return True
+
+
+def text_length(k, r):
+    """Give how many letters the last rule makes, however many."""
+    return rule_lengths(k, r)[k - 1]
+
+
+def rule_lengths(k, r):
+    """Give for each rule how many letters it makes."""
+    # Rules name only earlier ones, so one walk in order does without recursion.
+    lengths = []
+    for j in range(k):
+        first = thing_length(r[2 * j], lengths)
+        second = thing_length(r[2 * j + 1], lengths)
+        lengths.append(first + second)
+    return lengths
+
+
+def thing_length(thing, lengths):
+    """Give how many letters a thing makes, by the lengths of the rules before it."""
+    if thing < BYTES:
+        return 1
+    return lengths[thing - BYTES]
