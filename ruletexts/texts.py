@@ -4,9 +4,11 @@ BYTES = 256
 MOST_RULES = 256
 # 2^60, the first length that a text may not have.
 TOO_LONG = 1152921504606846976
+LONGEST_PIECE = 4096
 
 BAD_LIST = -1
 LONG_TEXT = -2
+OUT_OF_BOUNDS = -3
 
 
 def check(k, r):
@@ -20,6 +22,27 @@ def length(k, r):
     if refusal < 0:
         return [refusal]
     return [text_length(k, r)]
+
+
+def at(i, k, r):
+    """Answer the letter i, or a refusal."""
+    refusal = list_refusal(k, r)
+    if refusal < 0:
+        return [refusal]
+    if i < 0 or i >= text_length(k, r):
+        return [OUT_OF_BOUNDS]
+    return letters_from(i, 1, k, r)
+
+
+def piece(a, n, k, r):
+    """Answer how many letters there are from a on, n at most, and these; or a refusal."""
+    refusal = list_refusal(k, r)
+    if refusal < 0:
+        return [refusal]
+    if a < 0 or a > text_length(k, r) or n < 0 or n > LONGEST_PIECE:
+        return [OUT_OF_BOUNDS]
+    letters = letters_from(a, n, k, r)
+    return [len(letters)] + letters
 
 
 def list_refusal(k, r):
@@ -61,3 +84,39 @@ def thing_length(thing, lengths):
     if thing < BYTES:
         return 1
     return lengths[thing - BYTES]
+
+
+def letters_from(a, n, k, r):
+    """Give the text's letters from a on, n of them or as many as there are."""
+    ahead = things_from(a, k, r)
+    letters = []
+    while ahead and len(letters) < n:
+        thing = ahead.pop()
+        if thing < BYTES:
+            letters.append(thing)
+        else:
+            put_things(thing, r, ahead)
+    return letters
+
+
+def things_from(a, k, r):
+    """Give things that make the text from a on, the first of them last in the list."""
+    lengths = rule_lengths(k, r)
+    ahead = [BYTES + k - 1]
+    before = a
+    while before > 0:
+        thing = ahead.pop()
+        size = thing_length(thing, lengths)
+        # A thing that lies before a is left out whole: its letters are never gone through.
+        if size <= before:
+            before -= size
+        else:
+            put_things(thing, r, ahead)
+    return ahead
+
+
+def put_things(thing, r, ahead):
+    """Put a rule's two things at the end of the list, its first thing last."""
+    place = 2 * (thing - BYTES)
+    ahead.append(r[place + 1])
+    ahead.append(r[place])

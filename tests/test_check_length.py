@@ -1,14 +1,10 @@
 """Promise 1, and what stands ahead of it: check and length."""
 
-import builtins
-import io
 import itertools
-import sys
 import unittest
-from unittest import mock
 
-from lists import (BOUND, ReadOnlyList, doubling, one_below_bound, row_by_first, row_by_second,
-                   written_out)
+from calls import EachCallByItself, answer_with_few_frames
+from lists import BOUND, doubling, one_below_bound, row_by_first, row_by_second, written_out
 from ruletexts.texts import check, length
 
 SAMPLES = [
@@ -186,32 +182,8 @@ class LongTexts(Answers):
         self.assert_refused(72, start + [327, 97, 325, 325], -1)
 
 
-class EachCallByItself(unittest.TestCase):
-    def test_a_list_of_one_whole_number(self):
-        for call, (k, r) in itertools.product((check, length), SAMPLES):
-            answer = call(k, list(r))
-            self.assertIs(type(answer), list)
-            self.assertEqual([type(number) for number in answer], [int])
-
-    def test_what_is_handed_in_is_not_changed(self):
-        for call, (k, r) in itertools.product((check, length), SAMPLES):
-            handed = ReadOnlyList(r)
-            call(k, handed)
-            self.assertEqual(list(handed), r)
-
-    def test_a_second_call_answers_the_same(self):
-        for call, (k, r) in itertools.product((check, length), SAMPLES):
-            first = call(k, list(r))
-            kept = list(first)
-            first.append(7)
-            first[0] = 7
-            self.assertEqual(call(k, list(r)), kept)
-
-    def test_other_calls_in_between_do_not_matter(self):
-        calls = list(itertools.product((check, length), SAMPLES))
-        once = [call(k, list(r)) for call, (k, r) in calls]
-        backward = [call(k, list(r)) for call, (k, r) in reversed(calls)]
-        self.assertEqual(once, list(reversed(backward)))
+class CheckAndLengthByThemselves(EachCallByItself, unittest.TestCase):
+    samples = list(itertools.product((check, length), SAMPLES))
 
     def test_a_list_that_is_changed_between_calls_is_looked_at_anew(self):
         r = [97, 98, 256, 256]
@@ -221,33 +193,13 @@ class EachCallByItself(unittest.TestCase):
         r[3] = 257
         self.assertEqual((check(2, r), length(2, r)), ([-1], [-1]))
 
-    def test_nothing_is_printed_read_or_imported(self):
-        for call, (k, r) in itertools.product((check, length), SAMPLES):
-            out, err = io.StringIO(), io.StringIO()
-            refuse = mock.Mock(side_effect=AssertionError("not asked for"))
-            with mock.patch.object(sys, "stdout", out), mock.patch.object(sys, "stderr", err), \
-                    mock.patch.object(builtins, "open", refuse), \
-                    mock.patch.object(builtins, "input", refuse), \
-                    mock.patch.object(builtins, "__import__", refuse):
-                call(k, list(r))
-            self.assertEqual(out.getvalue() + err.getvalue(), "")
+    def test_one_number_alone(self):
+        for call, (k, r) in self.samples:
+            self.assertEqual(len(call(k, list(r))), 1)
 
     def test_a_row_of_rules_takes_few_calls_within_one_another(self):
-        limit = sys.getrecursionlimit()
-        depth = len(list(iter_frames()))
-        sys.setrecursionlimit(depth + 60)
-        try:
-            answers = [length(256, row_by_first(256)), length(256, row_by_second(256))]
-        finally:
-            sys.setrecursionlimit(limit)
-        self.assertEqual(answers, [[257], [257]])
-
-
-def iter_frames():
-    frame = sys._getframe()
-    while frame is not None:
-        yield frame
-        frame = frame.f_back
+        for r in (row_by_first(256), row_by_second(256)):
+            self.assertEqual(answer_with_few_frames(length, (256, r)), [257])
 
 
 if __name__ == "__main__":
