@@ -1,10 +1,12 @@
 """Texts that are reckoned with by their rules, never written out."""
 
-BYTES = 256
+from ruletexts.blocks import BYTES, Names, letters_alike, text_layers
+
 MOST_RULES = 256
 # 2^60, the first length that a text may not have.
 TOO_LONG = 1152921504606846976
 LONGEST_PIECE = 4096
+LONGEST_PATTERN = 64
 
 BAD_LIST = -1
 LONG_TEXT = -2
@@ -43,6 +45,27 @@ def piece(a, n, k, r):
         return [OUT_OF_BOUNDS]
     letters = letters_from(a, n, k, r)
     return [len(letters)] + letters
+
+
+def same(k, r, j, s):
+    """Answer how many letters both texts begin with alike, or a refusal."""
+    refusal = list_refusal(k, r)
+    if refusal == 0:
+        refusal = list_refusal(j, s)
+    if refusal < 0:
+        return [refusal]
+    names = Names()
+    return [letters_alike(text_layers(k, r, names), text_layers(j, s, names), names)]
+
+
+def count(n, k, r, p):
+    """Answer at how many places the pattern stands, or a refusal."""
+    refusal = list_refusal(k, r)
+    if refusal < 0:
+        return [refusal]
+    if n < 1 or n > LONGEST_PATTERN:
+        return [OUT_OF_BOUNDS]
+    return [places_of(p, k, r)]
 
 
 def list_refusal(k, r):
@@ -120,3 +143,45 @@ def put_things(thing, r, ahead):
     place = 2 * (thing - BYTES)
     ahead.append(r[place + 1])
     ahead.append(r[place])
+
+
+def places_of(p, k, r):
+    """Give at how many places of the text the pattern stands."""
+    borders = pattern_borders(p)
+    walks = {}
+    for thing in sorted(set(r)):
+        if thing < BYTES:
+            walks[thing] = letter_walk(thing, p, borders)
+    for j in range(k):
+        walks[BYTES + j] = joined_walk(walks[r[2 * j]], walks[r[2 * j + 1]])
+    found = walks[BYTES + k - 1][1]
+    return found[0]
+
+
+def letter_walk(letter, p, borders):
+    """Give a letter's walk: by how much of the pattern stood before it, how much does, and the places found."""
+    ends = [step(stood, letter, p, borders) for stood in range(len(p) + 1)]
+    found = [1 if end == len(p) else 0 for end in ends]
+    return (ends, found)
+
+
+def joined_walk(first, second):
+    """Give the walk through what the first walk goes through and then what the second does."""
+    ends = [second[0][end] for end in first[0]]
+    found = [places + second[1][end] for end, places in zip(first[0], first[1])]
+    return (ends, found)
+
+
+def step(stood, letter, p, borders):
+    """Give how many of the pattern's first letters stand last, once the letter is put behind."""
+    while stood > 0 and (stood == len(p) or p[stood] != letter):
+        stood = borders[stood]
+    return stood + 1 if p[stood] == letter else 0
+
+
+def pattern_borders(p):
+    """Give for each beginning of the pattern the longest shorter one that it ends with."""
+    borders = [0, 0]
+    for stood in range(1, len(p)):
+        borders.append(step(borders[stood], p[stood], p, borders))
+    return borders

@@ -70,17 +70,33 @@ def one_below_bound():
     return r
 
 
-def written_out(k, r):
-    """The text, letter by letter; None where a rule names what it may not."""
-    if any(max(r[2 * j:2 * j + 2]) >= 256 + j for j in range(k)):
-        return None
+def things_reached(k, r):
+    """The things that the text is made of, each behind those that it names."""
     reached = {255 + k}
     for j in range(k - 1, -1, -1):
         if 256 + j in reached:
             reached.update(r[2 * j:2 * j + 2])
+    return sorted(reached)
+
+
+def reached_rules(k, r):
+    """The same list without the rules that the last doesn't reach."""
+    kept = []
+    made = {thing: thing for thing in range(256)}
+    for thing in things_reached(k, r):
+        if thing > 255:
+            kept += [made[r[2 * (thing - 256)]], made[r[2 * (thing - 256) + 1]]]
+            made[thing] = 255 + len(kept) // 2
+    return len(kept) // 2, kept
+
+
+def written_out(k, r):
+    """The text, letter by letter; None where a rule names what it may not."""
+    if any(max(r[2 * j:2 * j + 2]) >= 256 + j for j in range(k)):
+        return None
     made = {}
     # Rules that the last doesn't reach aren't written out: they may be however long.
-    for thing in sorted(reached):
+    for thing in things_reached(k, r):
         j = thing - 256
         made[thing] = [thing] if j < 0 else made[r[2 * j]] + made[r[2 * j + 1]]
     return made[255 + k]
@@ -105,6 +121,62 @@ def drawn_list(draw, letters, most):
     return k, r
 
 
+def drawn_long_list(draw, letters, k, bound):
+    """A list of k rules with a text of fewer than `bound` letters, as long as chance makes it."""
+    r = [draw.choice(letters), draw.choice(letters)]
+    sizes = dict.fromkeys(range(256), 1)
+    sizes[256] = 2
+    for j in range(1, k):
+        things = [255 + j, max(256, 255 + j - int(draw.expovariate(0.3)))]
+        if draw.random() < 0.5:
+            things.reverse()
+        if sizes[things[0]] + sizes[things[1]] >= bound - k:
+            things = [255 + j, draw.choice(letters)]
+        r += things
+        sizes[256 + j] = sizes[things[0]] + sizes[things[1]]
+    return k, r
+
+
+def cut_otherwise(draw, k, r, most):
+    """A list with the same text whose rules meet elsewhere: (xy)z for x(yz), and the other way round."""
+    maker = Maker()
+    made = {thing: thing for thing in range(256)}
+    for j in range(k):
+        first, second = made[r[2 * j]], made[r[2 * j + 1]]
+        spare = most - len(maker.r) // 2 - (k - j) - 1
+        if spare > 0 and first > 255 and draw.random() < 0.6:
+            start, end = maker.things_of(first)
+            first, second = start, maker.both(end, second)
+        elif spare > 0 and second > 255 and draw.random() < 0.9:
+            start, end = maker.things_of(second)
+            first, second = maker.both(first, start), end
+        made[256 + j] = maker.both(first, second)
+    return maker.list_to(made[255 + k])
+
+
+def with_letter(k, r, place, letter):
+    """A list whose text has this letter at the place, and else is the same."""
+    sizes = dict.fromkeys(range(256), 1)
+    for j in range(k):
+        sizes[256 + j] = sizes[r[2 * j]] + sizes[r[2 * j + 1]]
+    thing = 255 + k
+    way = []
+    while thing > 255:
+        first, second = r[2 * (thing - 256)], r[2 * (thing - 256) + 1]
+        way.append((first, second, place < sizes[first]))
+        if place < sizes[first]:
+            thing = first
+        else:
+            place -= sizes[first]
+            thing = second
+    changed = letter
+    r = list(r)
+    for first, second, by_first in reversed(way):
+        r += [changed, second] if by_first else [first, changed]
+        changed = 255 + len(r) // 2
+    return reached_rules(len(r) // 2, r)
+
+
 class Maker:
     """A list in the making: each call gives the thing that makes what is asked for."""
 
@@ -118,6 +190,10 @@ class Maker:
             self.r += [first, second]
             self.known[first, second] = 255 + len(self.r) // 2
         return self.known[first, second]
+
+    def things_of(self, thing):
+        """The two things of the rule that this thing names."""
+        return tuple(self.r[2 * (thing - 256):2 * (thing - 256) + 2])
 
     def row(self, things):
         """The thing that makes what these make one after the other, put on from the left."""
@@ -144,11 +220,23 @@ class Maker:
                 thing = self.both(thing, thing)
         return self.row(parts if smallest_first else parts[::-1])
 
+    def list_to(self, thing):
+        """k and r of the list whose text is what this thing, a rule, makes."""
+        return thing - 255, self.r[:2 * (thing - 255)]
+
     def list_of(self, first, second):
         """k and r of the list whose text is what these two make."""
         # Put behind all others, known or not: the last rule is the one that counts.
         r = self.r + [first, second]
         return len(r) // 2, r
+
+
+def marked_list():
+    """x (ab)^(2^58 - 1) y (cd)^(2^58 - 1) z: 2^60 - 1 letters, y in the middle."""
+    maker = Maker()
+    start = maker.both(120, maker.power(maker.both(97, 98), 2 ** 58 - 1))
+    end = maker.row([121, maker.power(maker.both(99, 100), 2 ** 58 - 1), 122])
+    return maker.list_of(start, end)
 
 
 class ReadOnlyList(list):

@@ -5,43 +5,15 @@ import time
 import unittest
 
 from calls import EachCallByItself, answer_with_few_frames
-from lists import (BOUND, Maker, doubled, doubling, drawn_list, fibonacci, one_below_bound,
+from lists import (BOUND, doubled, doubling, drawn_list, fibonacci, marked_list, one_below_bound,
                    row_behind_doubling, row_by_first, row_by_second, row_by_turns, small_lists,
                    written_out)
+from refusals import BAD_LISTS, INT_MAX, INT_MIN, LONG_LISTS, LONG_MAX, LONG_MIN, WRONG_COUNTS
 from ruletexts.texts import at, check, length, piece
 
-LONG_MIN, LONG_MAX = -2 ** 63, 2 ** 63 - 1
-INT_MIN, INT_MAX = -2147483648, 2147483647
 ABABA = [97, 98, 256, 256, 257, 97]
-WRONG_COUNTS = (0, -1, -256, 257, 258, INT_MIN, INT_MAX)
 WRONG_PLACES = (-1, -2, LONG_MIN, LONG_MAX, BOUND)
 WRONG_SIZES = (-1, -2, 4097, 4098, 8192, 65536, INT_MIN, INT_MAX)
-
-BAD_LISTS = [
-    (1, [256, 97]),
-    (1, [97, 256]),
-    (2, [257, 97, 97, 98]),
-    (2, [97, 257, 97, 98]),
-    (3, [97, 98, 97, 257, 97, 98]),
-    (256, row_by_first(255) + [511, 97]),
-    (256, row_by_second(255) + [97, 65535]),
-    (256, doubling(255) + [510, 511]),
-]
-LONG_LISTS = [
-    (60, doubling(60)),
-    (119, one_below_bound() + [373, 97]),
-    (119, one_below_bound() + [97, 373]),
-    (256, doubling(256)),
-    (65, doubling(64) + [319, 256]),
-]
-
-
-def marked_list():
-    """x (ab)^(2^58 - 1) y (cd)^(2^58 - 1) z: 2^60 - 1 letters, y in the middle."""
-    maker = Maker()
-    start = maker.both(120, maker.power(maker.both(97, 98), 2 ** 58 - 1))
-    end = maker.row([121, maker.power(maker.both(99, 100), 2 ** 58 - 1), 122])
-    return maker.list_of(start, end)
 
 
 def marked_letter(i):
