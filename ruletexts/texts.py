@@ -7,6 +7,8 @@ MOST_RULES = 256
 TOO_LONG = 1152921504606846976
 LONGEST_PIECE = 4096
 LONGEST_PATTERN = 64
+SHORTEST_MADE = 2
+LONGEST_MADE = 12
 
 BAD_LIST = -1
 LONG_TEXT = -2
@@ -60,12 +62,28 @@ def same(k, r, j, s):
 
 def count(n, k, r, p):
     """Answer at how many places the pattern stands, or a refusal."""
-    refusal = list_refusal(k, r)
+    refusal = pattern_refusal(n, k, r)
     if refusal < 0:
         return [refusal]
-    if n < 1 or n > LONGEST_PATTERN:
+    return [places_in_text(k, walks_of(p, k, r))]
+
+
+def find(n, m, k, r, p):
+    """Answer the place of the pattern that has m such places before it, or a refusal."""
+    refusal = pattern_refusal(n, k, r)
+    if refusal < 0:
+        return [refusal]
+    walks = walks_of(p, k, r)
+    if m < 0 or m >= places_in_text(k, walks):
         return [OUT_OF_BOUNDS]
-    return [places_of(p, k, r)]
+    return [end_of_place(m, k, r, walks) - n]
+
+
+def fewest(n, t):
+    """Answer how many rules a list with the fewest has, of all that make t; or a refusal."""
+    if n < SHORTEST_MADE or n > LONGEST_MADE:
+        return [OUT_OF_BOUNDS]
+    return [rules_needed(tuple(t))]
 
 
 def list_refusal(k, r):
@@ -76,6 +94,14 @@ def list_refusal(k, r):
     if text_length(k, r) >= TOO_LONG:
         return LONG_TEXT
     return 0
+
+
+def pattern_refusal(n, k, r):
+    """Give 0, or the first refusal that is right of the list and the pattern's size."""
+    refusal = list_refusal(k, r)
+    if refusal == 0 and (n < 1 or n > LONGEST_PATTERN):
+        return OUT_OF_BOUNDS
+    return refusal
 
 
 def names_allowed(k, r):
@@ -145,8 +171,36 @@ def put_things(thing, r, ahead):
     ahead.append(r[place])
 
 
-def places_of(p, k, r):
+def places_in_text(k, walks):
     """Give at how many places of the text the pattern stands."""
+    found = walks[BYTES + k - 1][1]
+    return found[0]
+
+
+def end_of_place(m, k, r, walks):
+    """Give how many letters there are up to the end of the place that has m before it."""
+    lengths = rule_lengths(k, r)
+    thing = BYTES + k - 1
+    before = m
+    stood = 0
+    passed = 0
+    while thing >= BYTES:
+        first = r[2 * (thing - BYTES)]
+        second = r[2 * (thing - BYTES) + 1]
+        walk = walks[first]
+        # A place is found where it ends: it may begin in things that were passed already.
+        if before < walk[1][stood]:
+            thing = first
+        else:
+            before -= walk[1][stood]
+            stood = walk[0][stood]
+            passed += thing_length(first, lengths)
+            thing = second
+    return passed + 1
+
+
+def walks_of(p, k, r):
+    """Give for each thing of the list its walk, as letter_walk and joined_walk tell."""
     borders = pattern_borders(p)
     walks = {}
     for thing in sorted(set(r)):
@@ -154,8 +208,7 @@ def places_of(p, k, r):
             walks[thing] = letter_walk(thing, p, borders)
     for j in range(k):
         walks[BYTES + j] = joined_walk(walks[r[2 * j]], walks[r[2 * j + 1]])
-    found = walks[BYTES + k - 1][1]
-    return found[0]
+    return walks
 
 
 def letter_walk(letter, p, borders):
@@ -185,3 +238,36 @@ def pattern_borders(p):
     for stood in range(1, len(p)):
         borders.append(step(borders[stood], p[stood], p, borders))
     return borders
+
+
+def rules_needed(text):
+    """Give how many rules a list needs at least that makes this text, a tuple of letters."""
+    rules = 0
+    # Each key is one choice: the texts that are still to be made, once so many rules are there.
+    choices = {(text,): True}
+    while () not in choices:
+        choices = after_another_rule(choices)
+        rules += 1
+    return rules
+
+
+def after_another_rule(choices):
+    """Give what may be left to be made of each choice, once its longest text has a rule."""
+    # A rule makes something longer than both of its things: if the longest text is always the
+    # one that gets a rule, none of those that have one is asked for again.
+    left = {}
+    for texts in choices:
+        longest = texts[-1]
+        for place in range(1, len(longest)):
+            left[texts_with(texts[:-1], longest[:place], longest[place:])] = True
+    return left
+
+
+def texts_with(texts, first, second):
+    """Give the texts and these two, each once, the longest last; a single letter needs no rule."""
+    wanted = list(texts)
+    for each in (first, second):
+        if len(each) > 1 and each not in wanted:
+            wanted.append(each)
+    # Texts of one length in one order alone: a choice is one key, whichever way led to it.
+    return tuple(sorted(sorted(wanted), key=len))

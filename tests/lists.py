@@ -154,11 +154,40 @@ def cut_otherwise(draw, k, r, most):
     return maker.list_to(made[255 + k])
 
 
-def with_letter(k, r, place, letter):
-    """A list whose text has this letter at the place, and else is the same."""
+def sizes_of(k, r):
+    """How many letters each thing makes."""
     sizes = dict.fromkeys(range(256), 1)
     for j in range(k):
         sizes[256 + j] = sizes[r[2 * j]] + sizes[r[2 * j + 1]]
+    return sizes
+
+
+def beginning(k, r, size):
+    """A list, of more than 256 rules maybe, whose text is the first `size` letters, 2 or more."""
+    sizes = sizes_of(k, r)
+    ahead = [255 + k]
+    things = []
+    left = size
+    while left:
+        thing = ahead.pop()
+        if sizes[thing] <= left:
+            things.append(thing)
+            left -= sizes[thing]
+        else:
+            ahead += r[2 * (thing - 256):2 * (thing - 256) + 2][::-1]
+    if len(things) == 1:
+        return things[0] - 255, r[:2 * (things[0] - 255)]
+    r = list(r)
+    last = things[0]
+    for thing in things[1:]:
+        r += [last, thing]
+        last = 255 + len(r) // 2
+    return len(r) // 2, r
+
+
+def with_letter(k, r, place, letter):
+    """A list whose text has this letter at the place, and else is the same."""
+    sizes = sizes_of(k, r)
     thing = 255 + k
     way = []
     while thing > 255:

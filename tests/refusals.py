@@ -7,6 +7,9 @@ INT_MIN, INT_MAX = -2147483648, 2147483647
 
 WRONG_COUNTS = (0, -1, -256, 257, 258, INT_MIN, INT_MAX)
 
+# Of patterns.
+WRONG_SIZES = (0, -1, -64, 65, 66, 128, INT_MIN, INT_MAX)
+
 # A rule that names itself or a later one.
 BAD_LISTS = [
     (1, [256, 97]),

@@ -8,36 +8,12 @@ import unittest
 from calls import EachCallByItself, answer_with_few_frames
 from lists import (BOUND, Maker, cut_otherwise, doubled, doubling, drawn_list, drawn_long_list,
                    fibonacci, marked_list, one_below_bound, row_behind_doubling, row_by_first,
-                   row_by_second, row_by_turns, small_lists, things_reached, written_out)
-from refusals import BAD_LISTS, INT_MAX, INT_MIN, LONG_LISTS, WRONG_COUNTS
+                   row_by_second, row_by_turns, small_lists, written_out)
+from patterns import places_by_rules, places_in
+from refusals import BAD_LISTS, LONG_LISTS, WRONG_COUNTS, WRONG_SIZES
 from ruletexts.texts import count, length, piece
 
 LONGEST = BOUND - 1
-WRONG_SIZES = (0, -1, -64, 65, 66, 128, INT_MIN, INT_MAX)
-
-
-def places_in(text, pattern):
-    """At how many places the pattern stands, tried place by place."""
-    pattern = list(pattern)
-    return sum(text[i:i + len(pattern)] == pattern for i in range(len(text)))
-
-
-def places_by_rules(k, r, pattern):
-    """The same by the rules: each thing's places, beginning and end, and what stands where two meet."""
-    most = len(pattern) - 1
-    made = {}
-    for thing in things_reached(k, r):
-        if thing < 256:
-            made[thing] = (places_in([thing], pattern), [thing][:most], [thing][:most])
-            continue
-        first, second = made[r[2 * (thing - 256)]], made[r[2 * (thing - 256) + 1]]
-        # Neither side is as long as the pattern, so what stands in both together stands across.
-        across = places_in(first[2] + second[1], pattern)
-        # A beginning that is the end too and falls short of `most` is the thing's whole text.
-        start = first[1] + second[1] if len(first[1]) < most and first[1] == first[2] else first[1]
-        end = first[2] + second[2] if len(second[2]) < most and second[1] == second[2] else second[2]
-        made[thing] = (first[0] + second[0] + across, start[:most], end[max(0, len(end) - most):])
-    return made[255 + k][0]
 
 
 class Answers(unittest.TestCase):
