@@ -9,6 +9,7 @@ LONGEST_PIECE = 4096
 LONGEST_PATTERN = 64
 SHORTEST_MADE = 2
 LONGEST_MADE = 12
+LONGEST_CUT = 2048
 
 BAD_LIST = -1
 LONG_TEXT = -2
@@ -84,6 +85,14 @@ def fewest(n, t):
     if n < SHORTEST_MADE or n > LONGEST_MADE:
         return [OUT_OF_BOUNDS]
     return [rules_needed(tuple(t))]
+
+
+def factors(n, t):
+    """Answer how many pieces t is cut into, and how long each is; or a refusal."""
+    if n < 0 or n > LONGEST_CUT:
+        return [OUT_OF_BOUNDS]
+    sizes = piece_sizes(t)
+    return [len(sizes)] + sizes
 
 
 def list_refusal(k, r):
@@ -271,3 +280,29 @@ def texts_with(texts, first, second):
             wanted.append(each)
     # Texts of one length in one order alone: a choice is one key, whichever way led to it.
     return tuple(sorted(sorted(wanted), key=len))
+
+
+def piece_sizes(t):
+    """Give how long each piece is that t is cut into."""
+    sizes = []
+    start = 0
+    while start < len(t):
+        size = max(1, seen_size(start, t))
+        sizes.append(size)
+        start += size
+    return sizes
+
+
+def seen_size(start, t):
+    """Give how many letters from start on, at most, stand whole in all that comes before start."""
+    size = 0
+    # The places before start from which on the same letters stand, as far as size tells.
+    places = list(range(start))
+    while start + size < len(t):
+        letter = t[start + size]
+        # What reaches up to start ends there: a piece doesn't reach into itself.
+        places = [place for place in places if place + size < start and t[place + size] == letter]
+        if not places:
+            break
+        size += 1
+    return size
